@@ -4,6 +4,7 @@ import (
 	"cmp"
 
 	"sluiceway/api"
+	"sluiceway/fault"
 	"sluiceway/nat"
 )
 
@@ -21,12 +22,12 @@ func Cmp(a, b api.Dyad) int {
 
 // Add is a and b together.
 func Add(a, b api.Dyad) (api.Dyad, int) {
-	return told(func() api.Dyad { return sum(checked(a), checked(b)) })
+	return fault.Told(func() api.Dyad { return sum(checked(a), checked(b)) })
 }
 
 // Sub is a without b.
 func Sub(a, b api.Dyad) (api.Dyad, int) {
-	return told(func() api.Dyad { return sum(checked(a), Neg(checked(b))) })
+	return fault.Told(func() api.Dyad { return sum(checked(a), Neg(checked(b))) })
 }
 
 // sizes is Cmp of a and b without their signs; both are nought, or neither is.
@@ -46,7 +47,7 @@ func top(d api.Dyad) int {
 
 // over is the natural that times 2^e is d without its sign; e is at most d's E.
 func over(d api.Dyad, e int) []uint64 {
-	return natural(nat.Shl(d.M, d.E-e))
+	return fault.Must(nat.Shl(d.M, d.E-e))
 }
 
 // sum is a and b together.
@@ -72,29 +73,29 @@ func sum(a, b api.Dyad) api.Dyad {
 func together(a, b api.Dyad) api.Dyad {
 	if a.E == b.E {
 		// Both M are odd. Their sum is even and may have a bit more than fits, so it is halved ahead: it is twice the lesser half of one and the greater half of the other.
-		return normal(a.Neg, natural(nat.Add(lesser(a.M), greater(b.M))), a.E+1)
+		return normal(a.Neg, fault.Must(nat.Add(lesser(a.M), greater(b.M))), a.E+1)
 	}
 	e := min(a.E, b.E)
-	return normal(a.Neg, natural(nat.Add(over(a, e), over(b, e))), e)
+	return normal(a.Neg, fault.Must(nat.Add(over(a, e), over(b, e))), e)
 }
 
 // without is the sum of a and b, which have different signs, a the greater size.
 func without(a, b api.Dyad) api.Dyad {
 	if a.E <= b.E {
-		return normal(a.Neg, natural(nat.Sub(a.M, over(b, a.E))), a.E)
+		return normal(a.Neg, fault.Must(nat.Sub(a.M, over(b, a.E))), a.E)
 	}
 	// Over b's E, a is even and may have a bit more than fits where the difference has not; so half of it is taken, less the greater half of b's odd M. The difference is twice that and 1.
-	half := natural(nat.Sub(over(a, b.E+1), greater(b.M)))
-	m := natural(nat.Add(natural(nat.Shl(half, 1)), []uint64{1}))
+	half := fault.Must(nat.Sub(over(a, b.E+1), greater(b.M)))
+	m := fault.Must(nat.Add(fault.Must(nat.Shl(half, 1)), []uint64{1}))
 	return normal(a.Neg, m, b.E)
 }
 
 // lesser is half of m, which is odd, rounded down.
 func lesser(m []uint64) []uint64 {
-	return natural(nat.Shr(m, 1))
+	return fault.Must(nat.Shr(m, 1))
 }
 
 // greater is half of m, which is odd, rounded up.
 func greater(m []uint64) []uint64 {
-	return natural(nat.Add(lesser(m), []uint64{1}))
+	return fault.Must(nat.Add(lesser(m), []uint64{1}))
 }
