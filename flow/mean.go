@@ -5,6 +5,7 @@ import (
 	"sluiceway/box"
 	"sluiceway/dyad"
 	"sluiceway/fault"
+	"sluiceway/reckon"
 )
 
 const (
@@ -22,16 +23,22 @@ func (s *system) mean(l leg, x, rests []api.Ival, slopes [][]api.Ival) path {
 	}
 	var begin, apart []api.Ival
 	for k, d := range middle {
-		begin = append(begin, only(d))
+		begin = append(begin, reckon.Only(d))
 		apart = append(apart, api.Ival{Lo: fault.Must(dyad.Sub(x[k].Lo, d)), Hi: fault.Must(dyad.Sub(x[k].Hi, d))})
 	}
 	held := s.along(l, s.series(l, begin, rests))
 	for i, row := range s.moves(l, slopes) {
 		by := s.along(l, row)
-		held.end[i] = s.sum([]api.Ival{held.end[i], s.share(by.end, apart, 1)}, whole(1))
-		held.way[i] = s.sum([]api.Ival{held.way[i], s.share(by.way, apart, 1)}, whole(1))
+		held.end[i] = s.moved(held.end[i], by.end, apart)
+		held.way[i] = s.moved(held.way[i], by.way, apart)
 	}
 	return held
+}
+
+// moved is a, and what derivatives times a beginning apart are more than it.
+func (s *system) moved(a api.Ival, derivatives, apart []api.Ival) api.Ival {
+	more := reckon.Share(derivatives, apart, 1, s.bits)
+	return reckon.Sum([]api.Ival{a, more}, reckon.Whole(1), s.bits)
 }
 
 // middle is about the middle of x.
@@ -39,7 +46,7 @@ func (s *system) middle(x []api.Ival) []api.Dyad {
 	var middle []api.Dyad
 	for _, a := range x {
 		d := fault.Must(dyad.Shift(fault.Must(dyad.Add(a.Lo, a.Hi)), -1))
-		middle = append(middle, s.rounded([]api.Ival{only(d)})[0].Lo)
+		middle = append(middle, reckon.Rounded([]api.Ival{reckon.Only(d)}, s.bits)[0].Lo)
 	}
 	return middle
 }
@@ -50,7 +57,7 @@ func (s *system) moves(l leg, slopes [][]api.Ival) [][][]api.Ival {
 	moves := make([][][]api.Ival, len(slopes))
 	for j := range slopes {
 		column := make([]api.Ival, len(slopes))
-		column[j] = whole(1)
+		column[j] = reckon.Whole(1)
 		for i := range moves {
 			moves[i] = append(moves[i], []api.Ival{column[i]})
 		}
@@ -71,7 +78,7 @@ func (s *system) moves(l leg, slopes [][]api.Ival) [][][]api.Ival {
 func (s *system) times(slopes [][]api.Ival, column []api.Ival, n int) []api.Ival {
 	var all []api.Ival
 	for _, row := range slopes {
-		all = append(all, s.share(row, column, n))
+		all = append(all, reckon.Share(row, column, n, s.bits))
 	}
 	return all
 }
@@ -79,7 +86,7 @@ func (s *system) times(slopes [][]api.Ival, column []api.Ival, n int) []api.Ival
 // rest is what the coefficients of all orders that are not summed come to, as one of the first of these orders, in a step that is so short that they vanish soon.
 func (s *system) rest(l leg, slopes [][]api.Ival) api.Ival {
 	norm := s.norm(slopes)
-	if dyad.Cmp(s.share([]api.Ival{only(norm)}, []api.Ival{l.long}, 1).Hi, whole(1).Hi) > 0 {
+	if dyad.Cmp(reckon.Share([]api.Ival{reckon.Only(norm)}, []api.Ival{l.long}, 1, s.bits).Hi, reckon.Whole(1).Hi) > 0 {
 		panic(fault.Code(api.ErrStep))
 	}
 	most := fault.Must(dyad.Of(1, restExp))
@@ -94,20 +101,12 @@ func (s *system) norm(slopes [][]api.Ival) api.Dyad {
 	var norm api.Dyad
 	for _, row := range slopes {
 		var all api.Dyad
-		for _, a := range blunted(row) {
-			all = fault.Must(dyad.Add(all, size(a)))
+		for _, a := range reckon.Blunted(row) {
+			all = fault.Must(dyad.Add(all, reckon.Size(a)))
 		}
 		if dyad.Cmp(all, norm) > 0 {
 			norm = all
 		}
 	}
-	return s.rounded([]api.Ival{only(norm)})[0].Hi
-}
-
-// size is the greatest number of a without its sign.
-func size(a api.Ival) api.Dyad {
-	if low := dyad.Neg(a.Lo); dyad.Cmp(low, a.Hi) > 0 {
-		return low
-	}
-	return a.Hi
+	return reckon.Rounded([]api.Ival{reckon.Only(norm)}, s.bits)[0].Hi
 }

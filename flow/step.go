@@ -6,6 +6,7 @@ import (
 	"sluiceway/dyad"
 	"sluiceway/fault"
 	"sluiceway/jet"
+	"sluiceway/reckon"
 	"sluiceway/slope"
 	"sluiceway/tape"
 )
@@ -62,14 +63,7 @@ func (s *system) led(l leg, x, where []api.Ival) []api.Ival {
 
 // around are the rates that what begins in x has at all times: those on the box that is 1/2 greater, if they don't lead out of it. Where these are small the document asks for solutions, whatever f is elsewhere: on a smaller box it may have an error, of too many limbs.
 func (s *system) around(x []api.Ival, span api.Ival) []api.Ival {
-	begin := s.rounded(x)
-	wide := make([]api.Ival, len(x))
-	for k, a := range x {
-		var code int
-		if wide[k], code = grown(a, half()); code != api.OK {
-			wide[k] = fault.Must(grown(begin[k], half()))
-		}
-	}
+	begin, wide := reckon.Rounded(x, s.bits), reckon.Wider(x, s.bits)
 	rates, _, code := s.grad(api.Ival{Lo: s.from, Hi: s.to}, wide)
 	fault.Check(code)
 	all := leg{long: span, within: api.Ival{Hi: span.Hi}}
@@ -106,8 +100,8 @@ func (s *system) series(l leg, x, rests []api.Ival) [][]api.Ival {
 func (s *system) along(l leg, rows [][]api.Ival) path {
 	var held path
 	for _, row := range rows {
-		held.end = append(held.end, s.sum(row, l.long))
-		held.way = append(held.way, s.sum(row, l.within))
+		held.end = append(held.end, reckon.Sum(row, l.long, s.bits))
+		held.way = append(held.way, reckon.Sum(row, l.within, s.bits))
 	}
 	return held
 }
@@ -126,14 +120,7 @@ func widened(b, x []api.Ival) []api.Ival {
 	var wide []api.Ival
 	for k := range b {
 		more := fault.Must(dyad.Sub(fault.Must(box.Width(b[k:k+1])), fault.Must(box.Width(x[k:k+1]))))
-		wide = append(wide, fault.Must(grown(b[k], fault.Must(dyad.Shift(more, -1)))))
+		wide = append(wide, fault.Must(reckon.Grown(b[k], fault.Must(dyad.Shift(more, -1)))))
 	}
 	return wide
-}
-
-// grown is a with r more on each side.
-func grown(a api.Ival, r api.Dyad) (api.Ival, int) {
-	return fault.Told(func() api.Ival {
-		return api.Ival{Lo: fault.Must(dyad.Sub(a.Lo, r)), Hi: fault.Must(dyad.Add(a.Hi, r))}
-	})
 }

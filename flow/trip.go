@@ -5,6 +5,7 @@ import (
 	"sluiceway/box"
 	"sluiceway/dyad"
 	"sluiceway/fault"
+	"sluiceway/reckon"
 )
 
 const (
@@ -16,6 +17,8 @@ const (
 	calmSteps = 4
 	// shortBits is how many bits the greatest step has, so that many of them together have few.
 	shortBits = 32
+	// clockBits is how many bits times are reckoned to: as many as a tape takes.
+	clockBits = 300
 )
 
 // trip is how far one has come.
@@ -59,7 +62,7 @@ func (s *system) solve(x []api.Ival, h api.Dyad) path {
 
 // start is a trip from x, which has not gone any way yet.
 func (s *system) start(x []api.Ival, h api.Dyad) *trip {
-	begin, span := s.rounded(x), s.span()
+	begin, span := reckon.Rounded(x, s.bits), reckon.Span(s.from, s.to)
 	t := &trip{system: s, path: path{begin, begin}, span: span}
 	if dyad.Cmp(h, span.Hi) < 0 {
 		t.greatest = short(h).Lo
@@ -118,7 +121,7 @@ func (t *trip) lengthen() {
 func (t *trip) leg() leg {
 	size := fault.Must(dyad.Shift(t.greatest, -t.halves))
 	behind := fault.Must(dyad.Add(t.gone, size))
-	l := leg{begin: t.clock(t.gone), long: only(size), last: dyad.Cmp(behind, t.span.Lo) >= 0}
+	l := leg{begin: t.clock(t.gone), long: reckon.Only(size), last: dyad.Cmp(behind, t.span.Lo) >= 0}
 	l.times.Lo = l.begin.Lo
 	if l.last {
 		l.long = api.Ival{Lo: fault.Must(dyad.Sub(t.span.Lo, t.gone)), Hi: fault.Must(dyad.Sub(t.span.Hi, t.gone))}
@@ -149,7 +152,13 @@ func (t *trip) tried(l leg) (path, int) {
 	return held, api.OK
 }
 
+// clock is about the time when so much time has gone by.
+func (s *system) clock(gone api.Dyad) api.Ival {
+	lines := append(reckon.Pars(2), api.Line{Op: api.OAdd, A: 0, B: 1})
+	return reckon.Value(lines, 2, api.Ival{}, reckon.Blunted([]api.Ival{reckon.Only(s.from), reckon.Only(gone)}), clockBits)
+}
+
 // short is about d, with ends of few bits.
 func short(d api.Dyad) api.Ival {
-	return reckoned(pars(1), 0, api.Ival{}, []api.Ival{only(d)}, shortBits)
+	return reckon.Value(reckon.Pars(1), 0, api.Ival{}, []api.Ival{reckon.Only(d)}, shortBits)
 }

@@ -10,6 +10,7 @@ import (
 	"sluiceway/box"
 	"sluiceway/dyad"
 	"sluiceway/fault"
+	"sluiceway/reckon"
 	"sluiceway/tape"
 )
 
@@ -58,7 +59,7 @@ func TestTrap(t *testing.T) {
 		x := []api.Ival{to(r.Int64N(9)-4, 5, -2), to(-3, r.Int64N(9)-3, -3)}
 		begin := r.Int64N(48) - 32
 		size := num(1, -r.IntN(9))
-		l := leg{begin: only(num(begin, -4)), long: only(size), within: api.Ival{Hi: size}}
+		l := leg{begin: reckon.Only(num(begin, -4)), long: reckon.Only(size), within: api.Ival{Hi: size}}
 		l.times = api.Ival{Lo: l.begin.Lo, Hi: fault.Must(dyad.Add(l.begin.Lo, size))}
 		trap, code := fault.Told(func() []api.Ival { return s.trap(l, x) })
 		if code != api.OK {
@@ -98,9 +99,9 @@ func TestMoves(t *testing.T) {
 	s := &system{bits: 200}
 	for n := int64(-300); n <= 300; n++ {
 		for _, e := range []int{-3, 0, 7} {
-			l := leg{long: only(num(1, -8-e))}
+			l := leg{long: reckon.Only(num(1, -8-e))}
 			held, code := fault.Told(func() api.Ival {
-				return s.sum(s.moves(l, [][]api.Ival{{to(n, n, e)}})[0][0], l.long)
+				return reckon.Sum(s.moves(l, [][]api.Ival{{to(n, n, e)}})[0][0], l.long, s.bits)
 			})
 			if fits := -256 <= n && n <= 256; fits != (code == api.OK) {
 				t.Fatal(n, e, code)
@@ -111,15 +112,15 @@ func TestMoves(t *testing.T) {
 		}
 	}
 	// Of an interval those of both ends; of two rates that stand for each other, those of the sum and of the difference.
-	l := leg{long: only(num(1, -8))}
-	wide := s.sum(s.moves(l, [][]api.Ival{{to(-200, 100, 0)}})[0][0], l.long)
+	l := leg{long: reckon.Only(num(1, -8))}
+	wide := reckon.Sum(s.moves(l, [][]api.Ival{{to(-200, 100, 0)}})[0][0], l.long, s.bits)
 	if worth(wide.Lo).Cmp(exponential(-200)) > 0 || worth(wide.Hi).Cmp(exponential(100)) < 0 {
 		t.Error(wide)
 	}
 	cross := s.moves(l, [][]api.Ival{{{}, to(200, 200, 0)}, {to(200, 200, 0), {}}})
 	for i, row := range cross {
 		for j, c := range row {
-			held, sum := s.sum(c, l.long), exponential(200)
+			held, sum := reckon.Sum(c, l.long, s.bits), exponential(200)
 			if sum.Add(sum, exponential(-200)); i != j {
 				sum.Sub(exponential(200), exponential(-200))
 			}
@@ -127,29 +128,6 @@ func TestMoves(t *testing.T) {
 			if worth(held.Lo).Cmp(sum) > 0 || worth(held.Hi).Cmp(sum) < 0 {
 				t.Errorf("%d %d: %v does not hold %v", i, j, held, sum)
 			}
-		}
-	}
-}
-
-// TestBlunt: an end that is nearer to 0 than 2^-1024 is moved outward, to the next one that isn't.
-func TestBlunt(t *testing.T) {
-	least, next, deep := num(1, -1024), num(1, -1025), num(5, -api.MaxExp)
-	other := func(d api.Dyad) api.Dyad { return dyad.Neg(d) }
-	for _, c := range []struct{ lo, hi, wantLo, wantHi api.Dyad }{
-		{num(-1, 0), num(3, 0), num(-1, 0), num(3, 0)},
-		{num(0, 0), num(0, 0), num(0, 0), num(0, 0)},
-		{other(least), least, other(least), least},
-		{other(next), next, other(least), least},
-		{other(deep), deep, other(least), least},
-		{next, next, num(0, 0), least},
-		{other(next), other(deep), other(least), num(0, 0)},
-		{least, num(3, -1024), least, num(3, -1024)},
-		{num(-3, -1025), num(0, 0), num(-3, -1025), num(0, 0)},
-		{num(-3, -1026), num(3, -1026), other(least), least},
-		{num(3, -1025), num(1, api.MaxExp), num(3, -1025), num(1, api.MaxExp)},
-	} {
-		if got := blunt(api.Ival{Lo: c.lo, Hi: c.hi}); !dyad.Same(got.Lo, c.wantLo) || !dyad.Same(got.Hi, c.wantHi) {
-			t.Errorf("%v, %v: %v", c.lo, c.hi, got)
 		}
 	}
 }
